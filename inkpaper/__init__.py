@@ -1,0 +1,1 @@
+"""Pictures of pages told as ink and paper."""
