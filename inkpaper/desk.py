@@ -1,10 +1,11 @@
 """The calls: lists of whole numbers in, a list of whole numbers out."""
 
-from inkpaper.form import FormFault
-from inkpaper.picture import read_picture
-from inkpaper.scan import read_scan
+from inkpaper.form import FormFault, is_size
+from inkpaper.picture import read_picture, write_picture
+from inkpaper.scan import are_kinds, read_scan, write_scan
 
 DONE = 0
+MAY_NOT_BE = -1
 NOT_SUCH_A_FORM = -5
 FIRST_FORM = 0
 
@@ -36,6 +37,34 @@ def greys(picture):
     return row_answer(joined(rows))
 
 
+def draw(width, height, shades):
+    """Answer the picture of that size with these greys, row by row."""
+    if not fills(width, height, shades):
+        return [MAY_NOT_BE]
+    return row_answer(write_picture(parted(shades, width)))
+
+
+def points(scan):
+    """Answer the points of a scan, row by row."""
+    try:
+        rows = read_scan(scan)
+    except FormFault as fault:
+        return form_refused(FIRST_FORM, fault)
+    return row_answer(joined(rows))
+
+
+def write(width, height, given):
+    """Answer the scan of that size with these points, row by row."""
+    if not fills(width, height, given) or not are_kinds(given):
+        return [MAY_NOT_BE]
+    return row_answer(write_scan(parted(given, width)))
+
+
+def fills(width, height, numbers):
+    """Whether there is such a size, and the numbers are one for each of its points."""
+    return is_size(width, height) and len(numbers) == width * height
+
+
 def form_refused(which, fault):
     return [NOT_SUCH_A_FORM, which, fault.rule, fault.place]
 
@@ -54,3 +83,8 @@ def joined(rows):
     for row in rows:
         numbers.extend(row)
     return numbers
+
+
+def parted(numbers, width):
+    """Part the numbers into rows of that width."""
+    return [numbers[start:start + width] for start in range(0, len(numbers), width)]

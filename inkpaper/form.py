@@ -66,6 +66,10 @@ def is_side(number):
     return 1 <= number <= LONGEST_SIDE
 
 
+def is_size(width, height):
+    return is_side(width) and is_side(height) and width * height <= MOST_POINTS
+
+
 def read_width(reader):
     start = reader.place
     width = reader.take_number()
@@ -77,7 +81,7 @@ def read_width(reader):
 def read_height(reader, width):
     start = reader.place
     height = reader.take_number()
-    if not is_side(height) or width * height > MOST_POINTS:
+    if not is_size(width, height):
         raise FormFault(WRONG_SIZE, start)
     return height
 
@@ -105,6 +109,20 @@ def read_rows(data, mark, read_row, write_row):
     if not reader.at_end():
         raise FormFault(BYTES_BEHIND, reader.place)
     return rows
+
+
+def write_rows(rows, mark, write_row):
+    """Give the bytes of the form that tells the rows; write_row as in read_rows."""
+    told = list(mark) + number_bytes(len(rows[0])) + number_bytes(len(rows))
+    above = None
+    for row in rows:
+        told.extend(write_row(row, above))
+        above = row
+    return told
+
+
+def number_bytes(number):
+    return [number // weight % 256 for weight in WEIGHTS]
 
 
 def count_same(row, x, most):

@@ -1,6 +1,6 @@
 """A picture's form: rows of greys."""
 
-from inkpaper.form import FormFault, TOO_MANY, WRONG_START, count_same, read_rows
+from inkpaper.form import FormFault, TOO_MANY, WRONG_START, count_same, read_rows, write_rows
 
 MARK = (83, 72, 71, 49)
 ROW_ANEW = 0
@@ -15,6 +15,11 @@ MOST_GREYS = 128
 def read_picture(data):
     """Give the rows of greys of the picture that data tells."""
     return read_rows(data, MARK, read_row, write_row)
+
+
+def write_picture(rows):
+    """Give the bytes of the picture with these rows of greys."""
+    return write_rows(rows, MARK, write_row)
 
 
 def read_row(reader, width, above):

@@ -1,6 +1,10 @@
 """A scan's form: rows of paper (0), ink (1) and unclear (2)."""
 
-from inkpaper.form import FormFault, TOO_MANY, WRONG_START, count_same, read_rows
+from inkpaper.form import FormFault, TOO_MANY, WRONG_START, count_same, read_rows, write_rows
+
+PAPER = 0
+INK = 1
+UNCLEAR = 2
 
 MARK = (83, 72, 84, 49)
 ROW_AS_ABOVE = 255
@@ -12,6 +16,15 @@ FIRST_NO_RUN = 192
 def read_scan(data):
     """Give the rows of points of the scan that data tells."""
     return read_rows(data, MARK, read_row, write_row)
+
+
+def write_scan(rows):
+    """Give the bytes of the scan with these rows of points."""
+    return write_rows(rows, MARK, write_row)
+
+
+def are_kinds(numbers):
+    return all([number <= UNCLEAR for number in numbers])
 
 
 def read_row(reader, width, above):

@@ -54,6 +54,11 @@ def scan_of(rows):
     return raw_scan(len(rows[0]), len(rows), *told)
 
 
+def parted(numbers, width):
+    """The rows of that width that the numbers tell."""
+    return [numbers[start:start + width] for start in range(0, len(numbers), width)]
+
+
 def streaky_rows(random, width, height, values):
     """Rows with streaks of one value, some of them the same as the one above."""
     rows = []

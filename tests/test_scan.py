@@ -1,19 +1,21 @@
-"""judge_scan: scans in their one form."""
+"""judge_scan and points: scans in their one form."""
 
 import unittest
 from itertools import product
 from random import Random
 
-from inkpaper.desk import judge_scan
+from inkpaper.desk import judge_scan, points
 from tests.forms import raw_scan, scan_of, streaky_rows
 
 
 class ScanCase(unittest.TestCase):
-    def assert_scan(self, width, height, scan):
+    def assert_scan(self, width, height, told, scan):
         self.assertEqual(judge_scan(scan), [0, width, height])
+        self.assertEqual(points(scan), [0, width * height] + told)
 
     def assert_refused(self, rule, place, scan):
         self.assertEqual(judge_scan(scan), [-5, 0, rule, place])
+        self.assertEqual(points(scan), [-5, 0, rule, place])
 
     def assert_refused_for_good(self, rule, place, scan):
         """The fault is told, and it stays whatever bytes follow."""
@@ -24,45 +26,47 @@ class ScanCase(unittest.TestCase):
 
 class Accepted(ScanCase):
     def test_one_point_of_each_kind(self):
-        for run in (0, 64, 128):
-            self.assert_scan(1, 1, raw_scan(1, 1, [run]))
+        for kind, run in enumerate([0, 64, 128]):
+            self.assert_scan(1, 1, [kind], raw_scan(1, 1, [run]))
 
     def test_longest_run_of_each_kind(self):
-        for run in (63, 127, 191):
-            self.assert_scan(64, 1, raw_scan(64, 1, [run]))
+        for kind, run in enumerate([63, 127, 191]):
+            self.assert_scan(64, 1, [kind] * 64, raw_scan(64, 1, [run]))
 
     def test_every_run(self):
         for kind in range(3):
             for length in range(1, 65):
-                self.assert_scan(length, 1, raw_scan(length, 1, [64 * kind + length - 1]))
+                self.assert_scan(length, 1, [kind] * length, raw_scan(length, 1, [64 * kind + length - 1]))
 
     def test_more_points_than_one_run_tells(self):
         for kind in range(3):
-            self.assert_scan(65, 1, raw_scan(65, 1, [64 * kind + 63, 64 * kind]))
-            self.assert_scan(128, 1, raw_scan(128, 1, [64 * kind + 63] * 2))
-            self.assert_scan(400, 1, raw_scan(400, 1, [64 * kind + 63] * 6, [64 * kind + 15]))
+            self.assert_scan(65, 1, [kind] * 65, raw_scan(65, 1, [64 * kind + 63, 64 * kind]))
+            self.assert_scan(128, 1, [kind] * 128, raw_scan(128, 1, [64 * kind + 63] * 2))
+            self.assert_scan(400, 1, [kind] * 400, raw_scan(400, 1, [64 * kind + 63] * 6, [64 * kind + 15]))
 
     def test_runs_of_several_kinds(self):
-        self.assert_scan(6, 1, raw_scan(6, 1, [1, 64, 130]))
-        self.assert_scan(6, 1, raw_scan(6, 1, [0, 64, 0, 64, 128, 0]))
+        self.assert_scan(6, 1, [0, 0, 1, 2, 2, 2], raw_scan(6, 1, [1, 64, 130]))
+        self.assert_scan(6, 1, [0, 1, 0, 1, 2, 0], raw_scan(6, 1, [0, 64, 0, 64, 128, 0]))
 
     def test_many_rows(self):
-        self.assert_scan(4, 5, raw_scan(4, 5, [3], [255], [65, 129], [255], [3]))
-        self.assert_scan(2, 3, raw_scan(2, 3, [0, 64], [64, 0], [0, 64]))
+        told = [0, 0, 0, 0] * 2 + [1, 1, 2, 2] * 2 + [0, 0, 0, 0]
+        self.assert_scan(4, 5, told, raw_scan(4, 5, [3], [255], [65, 129], [255], [3]))
+        self.assert_scan(2, 3, [0, 1, 1, 0, 0, 1], raw_scan(2, 3, [0, 64], [64, 0], [0, 64]))
 
     def test_size_uses_all_bytes_lowest_first(self):
-        self.assert_scan(300, 1, raw_scan(300, 1, [63] * 4, [43]))
-        self.assert_scan(1, 300, raw_scan(1, 300, [0], [255] * 299))
+        self.assert_scan(300, 1, [0] * 300, raw_scan(300, 1, [63] * 4, [43]))
+        self.assert_scan(1, 300, [0] * 300, raw_scan(1, 300, [0], [255] * 299))
 
     def test_longest_sides_and_most_points(self):
-        self.assert_scan(8192, 1, scan_of([[2] * 8192]))
-        self.assert_scan(1, 8192, scan_of([[2]] * 8192))
-        self.assert_scan(8192, 2048, scan_of([[2] * 8192] * 2048))
+        self.assert_scan(8192, 1, [2] * 8192, scan_of([[2] * 8192]))
+        self.assert_scan(1, 8192, [2] * 8192, scan_of([[2]] * 8192))
+        self.assertEqual(judge_scan(scan_of([[2] * 8192] * 2048)), [0, 8192, 2048])
 
     def test_scans_of_all_sorts(self):
         random = Random(3)
         for width, height in [(1, 1), (1, 9), (9, 1), (5, 7), (20, 20), (65, 6), (131, 3), (200, 2), (400, 1)]:
-            self.assert_scan(width, height, scan_of(streaky_rows(random, width, height, [0, 1, 2])))
+            rows = streaky_rows(random, width, height, [0, 1, 2])
+            self.assert_scan(width, height, sum(rows, []), scan_of(rows))
 
 
 class Refused(ScanCase):
@@ -202,16 +206,18 @@ class Promised(ScanCase):
         for scan in ([], scan_of([[1, 1, 1], [1, 1, 1]]), raw_scan(2, 1, [0, 0]), [1, 2, 3]):
             before = list(scan)
             judge_scan(scan)
+            points(scan)
             self.assertEqual(scan, before)
 
     def test_nothing_is_kept(self):
         scan = scan_of([[1, 1, 1], [1, 1, 1], [0, 1, 2]])
         judge_scan(scan).clear()
-        judge_scan(raw_scan(2, 1, [0, 0]))
-        self.assert_scan(3, 3, scan)
+        points(scan).clear()
+        points(raw_scan(2, 1, [0, 0]))
+        self.assert_scan(3, 3, [1, 1, 1, 1, 1, 1, 0, 1, 2], scan)
 
     def test_answers_are_plain_whole_numbers(self):
-        for answer in (judge_scan([]), judge_scan(scan_of([[1]]))):
+        for answer in (judge_scan([]), judge_scan(scan_of([[1]])), points([]), points(scan_of([[1, 0], [1, 0]]))):
             self.assertIs(type(answer), list)
             self.assertEqual({type(entry) for entry in answer}, {int})
 
