@@ -1,8 +1,10 @@
 """The calls: lists of whole numbers in, a list of whole numbers out."""
 
 from inkpaper.form import FormFault, is_size
+from inkpaper.moves import is_pose, is_turn, posed_rows, turned_rows
 from inkpaper.picture import read_picture, write_picture
 from inkpaper.scan import are_kinds, read_scan, write_scan
+from inkpaper.window import Rule, tell_rows
 
 DONE = 0
 MAY_NOT_BE = -1
@@ -58,6 +60,40 @@ def write(width, height, given):
     if not fills(width, height, given) or not are_kinds(given):
         return [MAY_NOT_BE]
     return row_answer(write_scan(parted(given, width)))
+
+
+def tell(r, dark, light, below, near, picture):
+    """Answer the scan that a rule tells of a picture."""
+    rule = Rule(r, dark, light, below, near)
+    if not rule.is_so():
+        return [MAY_NOT_BE]
+    try:
+        rows = read_picture(picture)
+    except FormFault as fault:
+        return form_refused(FIRST_FORM, fault)
+    return row_answer(write_scan(tell_rows(rule, rows)))
+
+
+def pose(s, scan):
+    """Answer a scan in pose s."""
+    if not is_pose(s):
+        return [MAY_NOT_BE]
+    try:
+        rows = read_scan(scan)
+    except FormFault as fault:
+        return form_refused(FIRST_FORM, fault)
+    return row_answer(write_scan(posed_rows(s, rows)))
+
+
+def turn(quarters, scan):
+    """Answer a scan turned by quarters to the right."""
+    if not is_turn(quarters):
+        return [MAY_NOT_BE]
+    try:
+        rows = read_scan(scan)
+    except FormFault as fault:
+        return form_refused(FIRST_FORM, fault)
+    return row_answer(write_scan(turned_rows(quarters, rows)))
 
 
 def fills(width, height, numbers):

@@ -71,3 +71,40 @@ def streaky_rows(random, width, height, values):
             row.extend([random.choice(values)] * random.choice([1, 1, 1, 2, 2, 3, 4, 7, 65, 131]))
         rows.append(row[:width])
     return rows
+
+
+# One of each fault: rule, place, bytes.
+PICTURE_FAULTS = [
+    (1, 2, SCAN_MARK + number(1) + number(1) + [0, 0, 7]),
+    (2, 4, raw_picture(0, 1, [0, 0, 7])),
+    (2, 4, raw_picture(8193, 0, [0, 0, 7])),
+    (2, 8, raw_picture(1, 0, [0, 0, 7])),
+    (2, 8, raw_picture(8192, 2049)),
+    (3, 12, raw_picture(1, 1, [1])),
+    (3, 15, raw_picture(1, 2, [0, 0, 7], [2])),
+    (4, 13, raw_picture(2, 1, [0, 2, 7, 8, 9])),
+    (4, 13, raw_picture(2, 1, [0, 128, 7])),
+    (5, 0, []),
+    (5, 9, raw_picture(1, 1)[:9]),
+    (5, 14, raw_picture(1, 1, [0, 0])),
+    (6, 12, raw_picture(3, 1, [0, 2, 7, 7, 7])),
+    (6, 15, raw_picture(1, 2, [0, 0, 7], [0, 0, 7])),
+    (7, 15, raw_picture(1, 1, [0, 0, 7], [1])),
+]
+SCAN_FAULTS = [
+    (1, 2, PICTURE_MARK + number(1) + number(1) + [0]),
+    (2, 4, raw_scan(0, 1, [0])),
+    (2, 4, raw_scan(8193, 0, [0])),
+    (2, 8, raw_scan(1, 0, [0])),
+    (2, 8, raw_scan(8192, 2049)),
+    (3, 12, raw_scan(1, 1, [255])),
+    (3, 12, raw_scan(1, 1, [192])),
+    (3, 13, raw_scan(1, 2, [64], [254])),
+    (4, 12, raw_scan(2, 1, [66])),
+    (5, 0, []),
+    (5, 9, raw_scan(1, 1)[:9]),
+    (5, 13, raw_scan(2, 1, [64])),
+    (6, 12, raw_scan(2, 1, [64, 64])),
+    (6, 13, raw_scan(1, 2, [64], [64])),
+    (7, 13, raw_scan(1, 1, [64], [255])),
+]

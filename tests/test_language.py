@@ -83,6 +83,19 @@ class Language(unittest.TestCase):
         for name, node in self.named(ast.arg):
             self.assertFalse(hasattr(builtins, node.arg), (name, node.arg))
 
+    def test_no_local_is_called_like_an_import_or_a_class(self):
+        taken = {(name, entry.name) for name, node in self.named(ast.ImportFrom) for entry in node.names}
+        taken |= {(name, node.name) for name, node in self.named(ast.ClassDef)}
+        bound = {(name, node.id) for name, node in self.named(ast.Name) if isinstance(node.ctx, ast.Store)}
+        bound |= {(name, node.arg) for name, node in self.named(ast.arg)}
+        self.assertEqual(taken & bound, set())
+
+    def test_no_name_is_a_method_and_a_value(self):
+        methods = {entry.name for name, node in self.named(ast.ClassDef) for entry in node.body
+                   if isinstance(entry, ast.FunctionDef)}
+        values = {node.attr for name, node in self.named(ast.Attribute) if isinstance(node.ctx, ast.Store)}
+        self.assertEqual(methods & values, set())
+
     def test_methods(self):
         own = {node.name for name, node in self.named(ast.FunctionDef)}
         for name, node in self.named(ast.Call):
