@@ -2,14 +2,19 @@
 
 from inkpaper.form import FormFault, is_size
 from inkpaper.moves import is_pose, is_turn, posed_rows, turned_rows
+from inkpaper.parts import Box, fit_together, is_join, put_together
 from inkpaper.picture import read_picture, write_picture
 from inkpaper.scan import are_kinds, read_scan, write_scan
+from inkpaper.specks import is_speck_size, rows_without_specks
 from inkpaper.window import Rule, tell_rows
 
 DONE = 0
 MAY_NOT_BE = -1
+DOES_NOT_FIT = -2
 NOT_SUCH_A_FORM = -5
+TOO_LARGE = -6
 FIRST_FORM = 0
+SECOND_FORM = 1
 
 
 def judge_picture(picture):
@@ -94,6 +99,46 @@ def turn(quarters, scan):
     except FormFault as fault:
         return form_refused(FIRST_FORM, fault)
     return row_answer(write_scan(turned_rows(quarters, rows)))
+
+
+def cut(x0, y0, x1, y1, scan):
+    """Answer a scan cut to a box."""
+    box = Box(x0, y0, x1, y1)
+    try:
+        rows = read_scan(scan)
+    except FormFault as fault:
+        return form_refused(FIRST_FORM, fault)
+    if not box.lies_in(rows):
+        return [DOES_NOT_FIT]
+    return row_answer(write_scan(box.rows_within(rows)))
+
+
+def join(side, one, other):
+    """Answer two scans in one, the second beside the first (side 0) or below it (1)."""
+    if not is_join(side):
+        return [MAY_NOT_BE]
+    try:
+        first = read_scan(one)
+    except FormFault as fault:
+        return form_refused(FIRST_FORM, fault)
+    try:
+        second = read_scan(other)
+    except FormFault as fault:
+        return form_refused(SECOND_FORM, fault)
+    if not fit_together(side, first, second):
+        return [TOO_LARGE]
+    return row_answer(write_scan(put_together(side, first, second)))
+
+
+def unspeck(k, scan):
+    """Answer a scan without specks of k."""
+    if not is_speck_size(k):
+        return [MAY_NOT_BE]
+    try:
+        rows = read_scan(scan)
+    except FormFault as fault:
+        return form_refused(FIRST_FORM, fault)
+    return row_answer(write_scan(rows_without_specks(k, rows)))
 
 
 def fills(width, height, numbers):

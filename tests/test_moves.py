@@ -5,7 +5,8 @@ from fractions import Fraction
 from math import floor
 from random import Random
 
-from inkpaper.desk import judge_scan, pose, turn
+from inkpaper.desk import pose, turn
+from tests.cases import CallCase
 from tests.forms import SCAN_FAULTS, picture_of, raw_scan, scan_of, streaky_rows
 
 SIZES = [(1, 1), (1, 2), (2, 1), (1, 9), (9, 1), (2, 2), (5, 7), (7, 5), (20, 20), (65, 6), (6, 65), (100, 4), (4, 100),
@@ -33,26 +34,12 @@ def turned_by_the_words(rows):
     return turned
 
 
-class MoveCase(unittest.TestCase):
-    def assert_answer(self, answer, rows):
-        scan = scan_of(rows)
-        self.assertEqual(answer, [0, len(scan)] + scan)
-        self.assertEqual(judge_scan(answer[2:]), [0, len(rows[0]), len(rows)])
-
+class MoveCase(CallCase):
     def assert_posed(self, s, rows, posed):
-        self.assert_answer(pose(s, scan_of(rows)), posed)
+        self.assert_scan_answer(pose(s, scan_of(rows)), posed)
 
     def assert_turned(self, quarters, rows, turned):
-        self.assert_answer(turn(quarters, scan_of(rows)), turned)
-
-    def assert_unchanged(self, call, number, scan):
-        before = list(scan)
-        call(number, scan)
-        self.assertEqual(scan, before)
-
-    def assert_plain(self, answer):
-        self.assertIs(type(answer), list)
-        self.assertEqual({type(entry) for entry in answer}, {int})
+        self.assert_scan_answer(turn(quarters, scan_of(rows)), turned)
 
 
 class Posed(MoveCase):
