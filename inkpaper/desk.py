@@ -1,10 +1,12 @@
 """The calls: lists of whole numbers in, a list of whole numbers out."""
 
+from inkpaper.counts import are_same_size, count_apart, kind_counts
 from inkpaper.form import FormFault, is_size
 from inkpaper.moves import is_pose, is_turn, posed_rows, turned_rows
 from inkpaper.parts import Box, fit_together, is_join, put_together
 from inkpaper.picture import read_picture, write_picture
-from inkpaper.scan import are_kinds, read_scan, write_scan
+from inkpaper.planes import plane_words
+from inkpaper.scan import are_kinds, is_kind, read_scan, write_scan
 from inkpaper.specks import is_speck_size, rows_without_specks
 from inkpaper.window import Rule, tell_rows
 
@@ -139,6 +141,44 @@ def unspeck(k, scan):
     except FormFault as fault:
         return form_refused(FIRST_FORM, fault)
     return row_answer(write_scan(rows_without_specks(k, rows)))
+
+
+def plane(kind, scan):
+    """Answer the plane of a kind: words of 64 bits, row by row."""
+    if not is_kind(kind):
+        return [MAY_NOT_BE]
+    try:
+        rows = read_scan(scan)
+    except FormFault as fault:
+        return form_refused(FIRST_FORM, fault)
+    return row_answer(plane_words(kind, rows))
+
+
+def count(x0, y0, x1, y1, scan):
+    """Answer how many points of a box are paper, ink, unclear."""
+    box = Box(x0, y0, x1, y1)
+    try:
+        rows = read_scan(scan)
+    except FormFault as fault:
+        return form_refused(FIRST_FORM, fault)
+    if not box.lies_in(rows):
+        return [DOES_NOT_FIT]
+    return [DONE] + kind_counts(box.rows_within(rows))
+
+
+def apart(one, other):
+    """Answer how many points are ink in one of two scans and paper in the other."""
+    try:
+        first = read_scan(one)
+    except FormFault as fault:
+        return form_refused(FIRST_FORM, fault)
+    try:
+        second = read_scan(other)
+    except FormFault as fault:
+        return form_refused(SECOND_FORM, fault)
+    if not are_same_size(first, second):
+        return [DOES_NOT_FIT]
+    return [DONE, count_apart(first, second)]
 
 
 def fills(width, height, numbers):

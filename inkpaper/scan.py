@@ -23,8 +23,12 @@ def write_scan(rows):
     return write_rows(rows, MARK, write_row)
 
 
+def is_kind(number):
+    return number <= UNCLEAR
+
+
 def are_kinds(numbers):
-    return all([number <= UNCLEAR for number in numbers])
+    return all([is_kind(number) for number in numbers])
 
 
 def read_row(reader, width, above):

@@ -258,8 +258,12 @@ class Joined(PartCase):
 
     def test_most_points(self):
         """The points of the whole count, also those that neither of the two has."""
-        self.assertEqual(join(BESIDE, scan_of([[2] * 8191]), scan_of([[2]] * 2049)), [-6])
-        self.assertEqual(join(BELOW, scan_of([[2] * 2049]), scan_of([[2]] * 8191)), [-6])
+        long_row, high = scan_of([[2] * 8191]), scan_of([[2]] * 2049)
+        self.assertEqual(join(BESIDE, long_row, high), [-6])
+        self.assertEqual(join(BESIDE, high, long_row), [-6])
+        row, highest = scan_of([[2] * 2049]), scan_of([[2]] * 8191)
+        self.assertEqual(join(BELOW, row, highest), [-6])
+        self.assertEqual(join(BELOW, highest, row), [-6])
         answer = join(BESIDE, scan_of([[2] * 8191]), scan_of([[2]] * 2048))
         self.assertEqual(judge_scan(answer[2:]), [0, 8192, 2048])
 
